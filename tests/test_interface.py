@@ -1,0 +1,54 @@
+"""The names, arguments and classes that the document's interface lists, each in its own file."""
+
+import importlib
+import inspect
+import unittest
+
+FUNCTIONS = {
+    "webs": """cut(web, index) shut(web, index) put(web, place, other_place) renamed(web, letters)
+        beside(web, other_web) without_loops(web) is_whole(web)""",
+    "lots": """pieces(web, lot) rank(web, lot) spare(web, lot) is_wood(web, lot) is_hold(web, lot) is_ring(web, lot)
+        is_bond(web, lot) is_even(web, lot) is_two_sided(web, lot) rings(web) bonds(web) bridges(web) blocks(web)""",
+    "likeness": "plain_text(web) are_like(web, other_web) renaming(web, other_web) count_renamings(web)",
+    "trees": """count_trees(web) all_trees(web) trees_with(web, inside, outside) nth_tree(web, number)
+        index_of_tree(web, tree) exchanges(web, tree, index) least_length(web, lengths) count_least(web, lengths)
+        least_tree(web, lengths) bound_of(web, lengths, index)""",
+    "table": "lot_counts(web) table(web) value(web, x, y) early(web, tree) late(web, tree) by_trees(web)",
+    "leanings": """arrows(web, leaning) turned(web, leaning, lot) is_ringless(web, leaning) is_ringed(web, leaning)
+        fronts(web, leaning) ring_or_cut(web, leaning, index) order_of(web, leaning) ringless(web) ringed(web)
+        with_front(web, place) are_of_sort(web, leaning, other_leaning, word) sort_of(web, leaning, word)
+        count_sorts(web, word)""",
+}
+
+
+def told_functions():
+    for module, text in FUNCTIONS.items():
+        for part in text.split(")")[:-1]:
+            name, parameters = part.split("(")
+            yield module, name.strip(), [parameter.strip() for parameter in parameters.split(",")]
+
+
+class Interface(unittest.TestCase):
+    def test_functions(self):
+        for module, name, parameters in told_functions():
+            call = getattr(importlib.import_module(f"webreckon.{module}"), name)
+            self.assertTrue(inspect.isfunction(call), name)
+            self.assertEqual(call.__module__, f"webreckon.{module}", name)
+            told = inspect.signature(call).parameters
+            self.assertEqual(list(told), parameters, name)
+            for parameter in told.values():
+                self.assertEqual(parameter.kind, inspect.Parameter.POSITIONAL_OR_KEYWORD, name)
+                self.assertIs(parameter.default, inspect.Parameter.empty, name)
+
+    def test_web(self):
+        webs = importlib.import_module("webreckon.webs")
+        self.assertEqual(webs.Web.__module__, "webreckon.webs")
+        self.assertEqual(list(inspect.signature(webs.Web).parameters), ["places", "ties"])
+        for method in ("__init__", "__len__", "__eq__", "__str__", "text", "read"):
+            self.assertIn(method, vars(webs.Web))
+        self.assertEqual(list(inspect.signature(webs.Web.read).parameters), ["text"])
+        self.assertIsInstance(vars(webs.Web)["read"], classmethod)
+
+
+if __name__ == "__main__":
+    unittest.main()

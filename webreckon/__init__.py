@@ -1,0 +1,1 @@
+"""Webreckon: one web of places and ties, reckoned in many ways that meet."""

@@ -1,0 +1,140 @@
+"""What passed values must look like: small tests, and checks that raise the error of each parameter.
+
+The checks of a web, of a tree and of words stand with what they need: in webs, trees and leanings.
+"""
+
+from math import gcd
+
+from webreckon.errors import InvalidFraction
+from webreckon.errors import InvalidIndex
+from webreckon.errors import InvalidLeaning
+from webreckon.errors import InvalidLengths
+from webreckon.errors import InvalidLetters
+from webreckon.errors import InvalidLot
+from webreckon.errors import InvalidNumber
+from webreckon.errors import InvalidPlaces
+from webreckon.errors import InvalidTies
+from webreckon.errors import UnknownPlace
+from webreckon.limits import MOST_LENGTH
+from webreckon.limits import MOST_PLACES
+from webreckon.limits import MOST_TIES
+
+LETTERS = "abcdefgh"
+SIGNS = "+-"
+MOST_TOP = 10 ** 6
+MOST_BOTTOM = 1000
+
+
+def is_integer(value):
+    """Whether it is an integer; True and False are none."""
+    return isinstance(value, int) and not isinstance(value, bool)
+
+
+def is_integer_from(value, low, high):
+    return is_integer(value) and low <= value <= high
+
+
+def are_letters(value):
+    """Whether it is a string of unlike letters from a to h, in any order."""
+    if not isinstance(value, str) or len(value) > len(LETTERS):
+        return False
+    return all([letter in LETTERS and value.count(letter) == 1 for letter in value])
+
+
+def are_places(value):
+    if not are_letters(value) or not 1 <= len(value) <= MOST_PLACES:
+        return False
+    return value == "".join(sorted(value))
+
+
+def is_tie(places, value):
+    if not isinstance(value, str) or len(value) != 2:
+        return False
+    return value[0] in places and value[1] in places and value[0] <= value[1]
+
+
+def first_wrong_tie(places, ties):
+    """The index of the first element that is no tie, or one too many; None if there is none."""
+    for at, tie in enumerate(ties):
+        if at >= MOST_TIES or not is_tie(places, tie):
+            return at
+    return None
+
+
+def is_text(value):
+    if not isinstance(value, str):
+        return False
+    places, *ties = value.split(" ")
+    return are_places(places) and first_wrong_tie(places, ties) is None
+
+
+def is_fraction(value):
+    if not isinstance(value, tuple) or len(value) != 2:
+        return False
+    top, bottom = value
+    if not is_integer_from(top, -MOST_TOP, MOST_TOP) or not is_integer_from(bottom, 1, MOST_BOTTOM):
+        return False
+    return gcd(top, bottom) == 1
+
+
+def check_places(places):
+    if not are_places(places):
+        raise InvalidPlaces(places)
+
+
+def check_ties(places, ties):
+    if not isinstance(ties, tuple):
+        raise InvalidTies(None)
+    wrong = first_wrong_tie(places, ties)
+    if wrong is not None:
+        raise InvalidTies(wrong)
+
+
+def check_index(web, index):
+    if not is_integer_from(index, 0, len(web.ties) - 1):
+        raise InvalidIndex(index)
+
+
+def check_place(web, place):
+    if not isinstance(place, str) or len(place) != 1 or place not in web.places:
+        raise UnknownPlace(place)
+
+
+def check_letters(web, letters):
+    if not are_letters(letters) or len(letters) != len(web.places):
+        raise InvalidLetters(letters)
+
+
+def check_lot(web, lot):
+    if not isinstance(lot, tuple):
+        raise InvalidLot(None)
+    least = 0
+    for at, index in enumerate(lot):
+        if not is_integer_from(index, least, len(web.ties) - 1):
+            raise InvalidLot(at)
+        least = index + 1
+
+
+def check_number(number, low, high):
+    if not is_integer_from(number, low, high):
+        raise InvalidNumber(number)
+
+
+def check_fraction(value):
+    if not is_fraction(value):
+        raise InvalidFraction(value)
+
+
+def check_lengths(web, lengths):
+    if not isinstance(lengths, tuple) or len(lengths) != len(web.ties):
+        raise InvalidLengths(None)
+    for at, length in enumerate(lengths):
+        if not is_integer_from(length, -MOST_LENGTH, MOST_LENGTH):
+            raise InvalidLengths(at)
+
+
+def check_leaning(web, leaning):
+    if not isinstance(leaning, str) or len(leaning) != len(web.ties):
+        raise InvalidLeaning(leaning)
+    if not all([sign in SIGNS for sign in leaning]):
+        raise InvalidLeaning(leaning)
