@@ -8,6 +8,7 @@ import builtins
 import pathlib
 import re
 import unittest
+import warnings
 
 PACKAGE = pathlib.Path(__file__).resolve().parent.parent / "webreckon"
 LIBRARY = {"heapq": {"heappush", "heappop"}, "math": {"gcd", "lcm", "isqrt", "comb", "perm", "factorial"}}
@@ -81,6 +82,12 @@ class Form(unittest.TestCase):
         for path, tree in self.trees.items():
             for function in functions(tree):
                 self.assertLessEqual(function.end_lineno - function.lineno + 1, 40, (path, function.name))
+
+    def test_python_gives_no_warning(self):
+        with warnings.catch_warnings():
+            warnings.simplefilter("error")
+            for path, text in self.texts.items():
+                compile(text, str(path), "exec")
 
     def test_imports(self):
         leads = {}

@@ -51,8 +51,9 @@ def plain_text(web):
     """The first text of all webs like this one that have the first letters as places."""
     check_web(web)
     places = LETTERS[:len(web.places)]
-    rows = [sorted(with_letters(web, order).ties) for order in all_orders(places)]
-    return " ".join([places, *min(rows)])
+    # All these texts are alike in length, so they stand in the order of their rows of ties.
+    first = min([sorted(with_letters(web, order).ties) for order in all_orders(places)])
+    return " ".join([places, *first])
 
 
 def are_like(web, other_web):

@@ -64,8 +64,8 @@ def first_wrong_tie(places, ties):
 def is_text(value):
     if not isinstance(value, str):
         return False
-    places, *ties = value.split(" ")
-    return are_places(places) and first_wrong_tie(places, ties) is None
+    parts = value.split(" ")
+    return are_places(parts[0]) and first_wrong_tie(parts[0], parts[1:]) is None
 
 
 def is_fraction(value):

@@ -28,8 +28,8 @@ class Web:
         """The web with this text."""
         if not is_text(text):
             raise InvalidText(text)
-        places, *ties = text.split(" ")
-        return cls(places, tuple(ties))
+        parts = text.split(" ")
+        return cls(parts[0], tuple(parts[1:]))
 
     def text(self):
         return " ".join([self.places, *self.ties])
