@@ -3,12 +3,17 @@
 from itertools import combinations_with_replacement, product
 
 from webreckon.errors import (
+    InvalidBounds,
+    InvalidDye,
     InvalidFraction,
+    InvalidHeap,
     InvalidIndex,
     InvalidLeaning,
     InvalidLengths,
     InvalidLot,
     InvalidNumber,
+    InvalidRow,
+    InvalidValues,
     InvalidWord,
     NotATree,
     NotAWeb,
@@ -25,6 +30,19 @@ RING_OF_TWO = Web("ce", ("ce", "ce"))
 # Seven places and eleven ties each: one whole, without loops; one in pieces, with loops and alike ties.
 BIG = Web("abcdefg", ("ab", "ac", "ad", "bc", "cd", "de", "ef", "fg", "eg", "bf", "ag"))
 BIG_MIXED = Web("abcdfgh", ("fh", "ab", "bc", "ac", "bc", "ff", "cd", "ad", "gh", "bb", "fg"))
+THREE = Web("abc", ("ab", "bc", "ac"))
+PATH = Web("bceh", ("bh", "ce", "ch"))
+FULL = Web("acdf", ("ac", "ad", "af", "cd", "cf", "df"))
+DOUBLED = Web("abdg", ("dg", "ab", "ab", "bd", "ag", "bd", "ab"))
+STAR = Web("abcde", ("ac", "bc", "ce", "cd", "de"))
+TIES_OF_TWO = Web("bh", ("bh",) * 5)
+# Two more with seven places and eleven ties: one with nothing but a path, most of it doubled, one with one ring.
+CHAIN = Web("abcdefg", ("fg", "ab", "bc", "ab", "cd", "ef", "bc", "de", "cd", "ef", "de"))
+WHEEL_AND_TWIG = Web("abdefgh", ("ab", "ad", "ae", "af", "bd", "de", "ef", "bf", "fg", "gh", "gh"))
+# Heaps are told of none of these.
+APART = Web("abc", ("ab", "ab"))
+LOOPED = Web("abc", ("ab", "bc", "bb"))
+APART_AND_LOOPED = Web("abc", ("ab", "cc"))
 NAMED = (HOUSE, LONE, LONE_LOOPS, NO_TIES, TWO_PARTS, RING_OF_TWO)
 
 
@@ -72,6 +90,26 @@ def middle_webs():
 
 def few_webs():
     return [*NAMED, *thrown_webs(5, 14, 5, 6)]
+
+
+def is_for_heaps(web):
+    """Whether it is whole and without loops, by joining places again and again."""
+    joined = web.places[0]
+    for _ in web.places:
+        for tie in web.ties:
+            if tie[0] in joined or tie[1] in joined:
+                joined += tie
+    return set(joined) == set(web.places) and all(tie[0] != tie[1] for tie in web.ties)
+
+
+def heap_webs():
+    """Whole webs without loops of up to five places."""
+    told = [LONE, RING_OF_TWO, TIES_OF_TWO, HOUSE, THREE, PATH, FULL, DOUBLED, STAR]
+    return told + [web for web in thrown_webs(23, 400, 5, 7) if is_for_heaps(web)]
+
+
+def tiny_heap_webs():
+    return [web for web in tiny_webs() if is_for_heaps(web)]
 
 
 DEEP = ()
@@ -135,18 +173,58 @@ def wrong_leanings(web):
     return [(bad, InvalidLeaning, "value", bad) for bad in bads]
 
 
-def wrong_lengths(web):
-    many = len(web.ties)
-    bads = [bad for bad in STRANGE if not isinstance(bad, tuple)] + [0, "0" * many, [1] * many]
-    bads += [(1,) * (many + 1), (None,) * (many + 1), (1,) * (many + 12)]
+def wrong_tuples(many, error, right, wrong_elements):
+    """For a tuple that must have so many elements."""
+    bads = [bad for bad in STRANGE if not isinstance(bad, tuple)] + [0, "0" * many, [right] * many]
+    bads += [(right,) * (many + 1), (None,) * (many + 1), (right,) * (many + 12)]
     if many:
-        bads += [(), (1,) * (many - 1), ("x",) * (many - 1)]
-    rows = [(bad, InvalidLengths, "index", None) for bad in bads]
-    for bad in (None, True, False, "1", b"1", (1,), [1], 10 ** 9 + 1, -10 ** 9 - 1, 10 ** 59, -10 ** 59, DEEP):
+        bads += [(), (right,) * (many - 1), ("x",) * (many - 1)]
+    if many != 1:
+        bads.append(DEEP)
+    rows = [(bad, error, "index", None) for bad in bads]
+    for bad in (None, True, False, "1", b"1", [1], 10 ** 59, -10 ** 59, DEEP, *wrong_elements):
         for at in range(many):
-            row = (1,) * at + (bad,) + (None,) * (many - at - 1)
-            rows.append((row, InvalidLengths, "index", at))
+            rows.append(((right,) * at + (bad,) + (None,) * (many - at - 1), error, "index", at))
     return rows
+
+
+def wrong_lengths(web):
+    return wrong_tuples(len(web.ties), InvalidLengths, 1, ((1,), 10 ** 9 + 1, -10 ** 9 - 1))
+
+
+def wrong_rows(web):
+    return wrong_tuples(len(web.places), InvalidRow, 1, ((1,), 10 ** 6 + 1, -1))
+
+
+def wrong_heaps(web):
+    return wrong_tuples(len(web.places), InvalidHeap, -1, ((1,), 10 ** 6 + 1, -10 ** 6 - 1))
+
+
+def wrong_gives(web):
+    return wrong_tuples(len(web.places), InvalidRow, -1, ((1,), 10 ** 6 + 1, -10 ** 6 - 1))
+
+
+def wrong_bounds(web):
+    far = 10 ** 12
+    bads = (
+        1, (), (1,), (1, 2, 3), [1, 2], "12", (2, 1), (0, -1), (far, -far), (far, far + 1), (-far - 1, far), (True, 1),
+        (0, True), (None, 1), (0, None), (False, True), ("0", "1"), ((0, 1), 1), (0, 10 ** 59), (-10 ** 59, 0),
+    )
+    return wrong_tuples(len(web.ties), InvalidBounds, (-3, 5), bads)
+
+
+def wrong_values(web):
+    bads = tuple(bad for bad, _, _, _ in wrong_fractions())
+    return wrong_tuples(len(web.ties), InvalidValues, (-3, 5), bads)
+
+
+def wrong_dyes(web, number, more=""):
+    many = len(web.places)
+    bads = [*STRANGE, "1" * (many + 1), "1" * (many - 1), tuple("1" * many), ["1"] * many, b"1" * many]
+    bads += ["1" * (many - 1) + figure for figure in ("0", "8", "9", " ", "a", "-", "\u0661", "\u00b2", "?", "!")
+             if figure not in more]
+    bads += [str(number + 1) + "1" * (many - 1), "1" * (many - 1) + str(number + 1), 1, int("1" * many)]
+    return [(bad, InvalidDye, "value", bad) for bad in bads]
 
 
 def wrong_fractions():
@@ -163,6 +241,7 @@ def wrong_words():
     return [(bad, InvalidWord, "value", bad) for bad in STRANGE + near]
 
 
-def wrong_numbers(many):
-    bads = STRANGE + (many, many + 1, "0", (0,), "")
+def wrong_numbers(many, least=0):
+    """For a number from the least one to one less than so many."""
+    bads = STRANGE + (many, many + 1, "0", (0,), "", least - 1)
     return [(bad, InvalidNumber, "value", bad) for bad in bads]

@@ -15,6 +15,32 @@ HOUSE = '''
 [6, 10, 5, ((5, 4, 1), (4, 1, 0), (1, 0, 0))]
 '''
 
+HEAPS = '''
+>>> from webreckon.heaps import least_heap
+>>> from webreckon.lasting import cyclic_parts, lasting_heaps, settled
+>>> from webreckon.ranks import is_free, mate, rank
+>>> from webreckon.webs import Web
+>>> three = Web("abc", ("ab", "bc", "ac"))
+>>> [lasting_heaps(three, "a"), cyclic_parts(three), least_heap(three, (0, 3, 0), "a"), settled(three, (0, 2, 2), "a")]
+[((0, 0, 1), (0, 1, 0), (0, 1, 1)), (3,), (3, 0, 0), ((2, 1, 1), (0, 1, 1))]
+>>> [is_free(three, (-1, 1, 0)), is_free(three, (2, -1, 0)), rank(three, (0, 0, 0)), mate(three, (1, 0, 0))]
+[False, True, 0, (-1, 0, 0)]
+'''
+
+# Of the third example what the modules so far tell; webreckon.ways has the rest.
+FLOWS = '''
+>>> from webreckon.currents import bounded, count_currents, even_cuts
+>>> from webreckon.dyes import count_dyes, dye_counts
+>>> from webreckon.pulls import pull, steps
+>>> from webreckon.scores import barring, is_row
+>>> from webreckon.webs import Web
+>>> three = Web("abc", ("ab", "bc", "ac"))
+>>> [dye_counts(three), count_dyes(three, 3), count_currents(three, 5), pull(three, "a", "b"), steps(three, "a", "b"), even_cuts(three)]
+[(0, 2, -3, 1), 6, 4, (2, 3), (2, 1), ((),)]
+>>> [is_row(three, (2, 1, 0)), is_row(three, (3, 0, 0)), barring(three, (3, 0, 0)), bounded(three, ((1, 2), (0, 0), (0, 9)))]
+[True, False, 'bc', None]
+'''
+
 
 class Examples(unittest.TestCase):
     def check(self, text, name, many):
@@ -25,6 +51,12 @@ class Examples(unittest.TestCase):
 
     def test_house(self):
         self.check(HOUSE, "house", 7)
+
+    def test_heaps(self):
+        self.check(HEAPS, "heaps", 7)
+
+    def test_flows(self):
+        self.check(FLOWS, "flows", 8)
 
 
 if __name__ == "__main__":

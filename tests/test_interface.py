@@ -18,6 +18,23 @@ FUNCTIONS = {
         fronts(web, leaning) ring_or_cut(web, leaning, index) order_of(web, leaning) ringless(web) ringed(web)
         with_front(web, place) are_of_sort(web, leaning, other_leaning, word) sort_of(web, leaning, word)
         count_sorts(web, word)""",
+    "scores": """row_of(web, leaning) is_row(web, row) leaning_for(web, row) barring(web, row) all_rows(web)
+        count_rows(web) count_leanings(web, row) turning_rings(web, leaning, other_leaning)
+        distance_to_row(web, row) nearest_row(web, row)""",
+    "dyes": """dye_counts(web) count_dyes(web, number) least_dyes(web) dyes(web, number) is_dye(web, number, dye)
+        fitting_dyes(web, number, dye) leaning_of(web, number, dye) rising_pairs(web, number)""",
+    "currents": """current_counts(web) count_currents(web, number) some_current(web, number) least_rest(web)
+        bounded(web, bounds) barring_herd(web, bounds) parted(web, values) heights_of(web, values) even_cuts(web)""",
+    "heaps": """behind(web, heap, gives) are_alike(web, heap, other_heap) gives_between(web, heap, other_heap)
+        least_heap(web, heap, bank) is_least(web, heap, bank) burning(web, heap, bank)
+        heap_of_tree(web, tree, bank)""",
+    "lasting": """settled(web, heap, bank) is_lasting(web, heap, bank) lasting_heaps(web, bank) level(web, heap, bank)
+        summed(web, heap, other_heap, bank) neutral(web, bank) order_of_heap(web, heap, bank) cyclic_parts(web)""",
+    "hands": """walked(web, tree, place, bank) led(web, tree, heap, bank)
+        leading_heap(web, tree, other_tree, bank)""",
+    "ranks": "is_free(web, heap) free_heap(web, heap) rank(web, heap) mate(web, heap) taking(web, heap)",
+    "pulls": """pull(web, place, other_place) heights_between(web, place, other_place) shares(web)
+        steps(web, place, other_place) there_and_back(web, place, other_place)""",
 }
 
 

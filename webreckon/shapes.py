@@ -5,7 +5,10 @@ The checks of a web, of a tree and of words stand with what they need: in webs, 
 
 from math import gcd
 
+from webreckon.errors import InvalidBounds
+from webreckon.errors import InvalidDye
 from webreckon.errors import InvalidFraction
+from webreckon.errors import InvalidHeap
 from webreckon.errors import InvalidIndex
 from webreckon.errors import InvalidLeaning
 from webreckon.errors import InvalidLengths
@@ -13,16 +16,24 @@ from webreckon.errors import InvalidLetters
 from webreckon.errors import InvalidLot
 from webreckon.errors import InvalidNumber
 from webreckon.errors import InvalidPlaces
+from webreckon.errors import InvalidRow
 from webreckon.errors import InvalidTies
+from webreckon.errors import InvalidValues
 from webreckon.errors import UnknownPlace
+from webreckon.limits import MOST_HEAP
 from webreckon.limits import MOST_LENGTH
 from webreckon.limits import MOST_PLACES
+from webreckon.limits import MOST_ROOM
 from webreckon.limits import MOST_TIES
 
 LETTERS = "abcdefgh"
 SIGNS = "+-"
+FIGURES = "1234567"
+UNTOLD = "?"
 MOST_TOP = 10 ** 6
 MOST_BOTTOM = 1000
+MOST_SCORE = 10 ** 6
+NOWHERE = -1
 
 
 def is_integer(value):
@@ -77,6 +88,35 @@ def is_fraction(value):
     return gcd(top, bottom) == 1
 
 
+def is_bound(value):
+    if not isinstance(value, tuple) or len(value) != 2:
+        return False
+    low, high = value
+    return is_integer_from(low, -MOST_ROOM, MOST_ROOM) and is_integer_from(high, low, MOST_ROOM)
+
+
+def is_length(value):
+    return is_integer_from(value, -MOST_LENGTH, MOST_LENGTH)
+
+
+def is_score(value):
+    return is_integer_from(value, 0, MOST_SCORE)
+
+
+def is_heap_number(value):
+    return is_integer_from(value, -MOST_HEAP, MOST_HEAP)
+
+
+def where_wrong(values, many, is_right):
+    """None if it is no tuple of so many elements, else the index of the first wrong one, NOWHERE if all are right."""
+    if not isinstance(values, tuple) or len(values) != many:
+        return None
+    for at, value in enumerate(values):
+        if not is_right(value):
+            return at
+    return NOWHERE
+
+
 def check_places(places):
     if not are_places(places):
         raise InvalidPlaces(places)
@@ -126,11 +166,47 @@ def check_fraction(value):
 
 
 def check_lengths(web, lengths):
-    if not isinstance(lengths, tuple) or len(lengths) != len(web.ties):
-        raise InvalidLengths(None)
-    for at, length in enumerate(lengths):
-        if not is_integer_from(length, -MOST_LENGTH, MOST_LENGTH):
-            raise InvalidLengths(at)
+    wrong = where_wrong(lengths, len(web.ties), is_length)
+    if wrong != NOWHERE:
+        raise InvalidLengths(wrong)
+
+
+def check_values(web, values):
+    wrong = where_wrong(values, len(web.ties), is_fraction)
+    if wrong != NOWHERE:
+        raise InvalidValues(wrong)
+
+
+def check_bounds(web, bounds):
+    wrong = where_wrong(bounds, len(web.ties), is_bound)
+    if wrong != NOWHERE:
+        raise InvalidBounds(wrong)
+
+
+def check_row(web, row):
+    wrong = where_wrong(row, len(web.places), is_score)
+    if wrong != NOWHERE:
+        raise InvalidRow(wrong)
+
+
+def check_gives(web, gives):
+    """Gives may have the same numbers as heaps, but another error tells that they are wrong."""
+    wrong = where_wrong(gives, len(web.places), is_heap_number)
+    if wrong != NOWHERE:
+        raise InvalidRow(wrong)
+
+
+def check_heap(web, heap):
+    wrong = where_wrong(heap, len(web.places), is_heap_number)
+    if wrong != NOWHERE:
+        raise InvalidHeap(wrong)
+
+
+def check_dye(web, dye, figures):
+    if not isinstance(dye, str) or len(dye) != len(web.places):
+        raise InvalidDye(dye)
+    if not all([figure in figures for figure in dye]):
+        raise InvalidDye(dye)
 
 
 def check_leaning(web, leaning):

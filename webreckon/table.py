@@ -60,6 +60,11 @@ def powers(base, most):
     return row
 
 
+def sum_of_powers(counts, base):
+    """The sum of each count times the power of the base with its index."""
+    return sum([many * power for many, power in zip(counts, powers(base, len(counts) - 1))])
+
+
 def scaled_powers(fraction, most):
     """The powers of the fraction up to the most, each times the bottom to the most: integers."""
     tops = powers(fraction[0], most)
