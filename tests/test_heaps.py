@@ -33,6 +33,8 @@ def great_heaps(web, dice):
     many = len(web.places)
     rows = [(MOST,) * many, (-MOST,) * many, (MOST,) + (0,) * (many - 1), (0,) * (many - 1) + (-MOST,)]
     rows.append(tuple((MOST, -MOST, 0, 1)[dice.below(4)] for _ in range(many)))
+    for number in (MOST, -MOST):
+        rows += [tuple(number if k == at else 1 for k in range(many)) for at in range(1, many - 1)]
     return rows + [thrown_heap(web, dice, -MOST, MOST)]
 
 
@@ -279,8 +281,13 @@ class Errors(Case):
             self.raises(error, None, None, burning, web, (0, -1, 0), "a")
             self.raises(UnknownPlace, "value", "d", burning, web, (0, -1, 0), "d")
             self.raises(error, None, None, behind, web, (MOST, 0, 0), (0, MOST, 0))
-        for heap, bank in (((-1, 0, 0), "b"), ((0, -1, 0), "a"), ((5, 5, -MOST), "b"), ((-1, -1, 0), "b")):
-            self.raises(Refused, "value", heap, burning, HOUSE, heap, bank)
+        for at in range(3):
+            for number in (-1, -MOST):
+                heap = tuple(number if k == at else 1 for k in range(3))
+                for bank in "abc":
+                    if bank != "abc"[at]:
+                        self.raises(Refused, "value", heap, burning, HOUSE, heap, bank)
+        self.raises(Refused, "value", (-1, -1, 0), burning, HOUSE, (-1, -1, 0), "b")
         self.raises(InvalidHeap, "index", 1, burning, HOUSE, (-1, MOST + 1, 0), "b")
 
     def test_numbers_at_their_bounds(self):

@@ -273,6 +273,17 @@ class Errors(Case):
             for call in (settled, is_lasting, level, order_of_heap):
                 self.raises(Refused, "value", heap, call, HOUSE, heap, bank)
 
+    def test_refused_for_each_place_but_the_bank(self):
+        for at in range(3):
+            for number in (-1, -MOST):
+                heap = tuple(number if k == at else 1 for k in range(3))
+                for bank in "abc":
+                    for call in (settled, is_lasting):
+                        if bank == "abc"[at]:
+                            call(HOUSE, heap, bank)
+                        else:
+                            self.raises(Refused, "value", heap, call, HOUSE, heap, bank)
+
     def test_refused_if_not_lasting(self):
         lasting = (0, 2, 1)
         for heap in ((0, 0, 0), (0, 3, 0), (0, 2, 2), (0, MOST, 0), (0, 2, -1)):
@@ -280,7 +291,7 @@ class Errors(Case):
                 self.raises(Refused, "value", heap, call, HOUSE, heap, "a")
             self.raises(Refused, "value", heap, summed, HOUSE, heap, lasting, "a")
             self.raises(Refused, "value", heap, summed, HOUSE, lasting, heap, "a")
-            self.raises(Refused, "value", heap, summed, HOUSE, heap, (0, 1, 0), "a")
+            self.raises(Refused, "value", heap, summed, HOUSE, heap, (7, 0, 0), "a")
         self.raises(InvalidHeap, "index", 0, summed, HOUSE, (0, 0, 0), (MOST + 1, 0, 0), "a")
         self.raises(UnknownPlace, "value", "d", summed, HOUSE, (0, 0, 0), (0, 0, 0), "d")
 

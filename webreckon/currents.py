@@ -68,7 +68,7 @@ def current_round(web, tree, index):
 
 
 def some_rests(web, number):
-    """Some current by rests, none 0, where there is one: each one is a sum of currents round the ties of no tree."""
+    """Some current by rests, none 0, where there is one: each is a sum of currents round the ties outside a tree."""
     tree = trees_of(web)[0]
     rows = [[0] * len(web.ties)]
     for index in outside_of(web, tree):
@@ -81,10 +81,10 @@ def some_rests(web, number):
 
 
 def current_with_rests(web, rests, number):
-    """The current that has each rest as it is or less by the number; there always is such a one (Tutte).
+    """A current that has each rest as it is or less by the number; there always is one (Tutte).
 
-    The rests that stand as they are may be the plus signs of a leaning; then its score row follows from what must
-    come out even at each place.
+    Read as a leaning, with a plus for each rest that stays as it is, the choice has the score row that follows from
+    what goes out of each place by the rests; any leaning with this row will do.
     """
     firsts = "".join([tie[0] for tie in web.ties])
     row = [firsts.count(place) - out // number for place, out in zip(web.places, outflow(web, rests))]

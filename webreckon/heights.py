@@ -43,9 +43,9 @@ def equation_at(web, place, others, amount):
     return row + [amount]
 
 
-def eliminated(row, pivots, at, before):
+def eliminated(row, pivot_row, at, before):
     """The row without its number at the index; the division by the pivot before leaves no rest (Bareiss)."""
-    return [(pivots[at] * one - row[at] * other) // before for one, other in zip(row, pivots)]
+    return [(pivot_row[at] * one - row[at] * other) // before for one, other in zip(row, pivot_row)]
 
 
 def solved(rows):
@@ -55,9 +55,9 @@ def solved(rows):
     """
     before = 1
     for at in range(len(rows)):
-        pivots = rows[at]
-        rows = [row if k == at else eliminated(row, pivots, at, before) for k, row in enumerate(rows)]
-        before = pivots[at]
+        pivot_row = rows[at]
+        rows = [row if k == at else eliminated(row, pivot_row, at, before) for k, row in enumerate(rows)]
+        before = pivot_row[at]
     return [row[-1] for row in rows], before
 
 

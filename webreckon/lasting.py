@@ -112,10 +112,11 @@ def split_off(rows):
         rows = lessened(rows, at, column)
         rows = across(lessened(across(rows), column, at))
         undivided = [row for row in rows if any([number % size != 0 for number in row])]
-        if undivided and is_alone(rows, at, column):
-            rows[at] = [number + other for number, other in zip(rows[at], undivided[0])]
-        elif not undivided and is_alone(rows, at, column):
+        if not undivided:
             return size, without_row_and_column(rows, at, column)
+        if is_alone(rows, at, column):
+            # Only what stands in its own row or column can make a lesser number of it.
+            rows[at] = [number + other for number, other in zip(rows[at], undivided[0])]
 
 
 def settled(web, heap, bank):
