@@ -12,6 +12,7 @@ from webreckon.errors import (
     InvalidLengths,
     InvalidLot,
     InvalidNumber,
+    InvalidRooms,
     InvalidRow,
     InvalidValues,
     InvalidWord,
@@ -192,6 +193,10 @@ def wrong_lengths(web):
     return wrong_tuples(len(web.ties), InvalidLengths, 1, ((1,), 10 ** 9 + 1, -10 ** 9 - 1))
 
 
+def wrong_rooms(web):
+    return wrong_tuples(len(web.ties), InvalidRooms, 1, ((1,), 10 ** 12 + 1, -1))
+
+
 def wrong_rows(web):
     return wrong_tuples(len(web.places), InvalidRow, 1, ((1,), 10 ** 6 + 1, -1))
 
@@ -238,6 +243,11 @@ def wrong_fractions():
 
 def wrong_words():
     near = ("", "ring", "cut", "Rings", "rings ", "boths", 0, 1, ("rings",), b"rings", ["both"], "rings cuts")
+    return [(bad, InvalidWord, "value", bad) for bad in STRANGE + near]
+
+
+def wrong_words_of_numbers():
+    near = ("", "tree", "Trees", "trees ", " trees", "cuts", "row", 0, 1, ("trees",), b"trees", ["woods"], "woods holds")
     return [(bad, InvalidWord, "value", bad) for bad in STRANGE + near]
 
 

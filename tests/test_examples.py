@@ -27,18 +27,18 @@ HEAPS = '''
 [False, True, 0, (-1, 0, 0)]
 '''
 
-# Of the third example what the modules so far tell; webreckon.ways has the rest.
 FLOWS = '''
 >>> from webreckon.currents import bounded, count_currents, even_cuts
 >>> from webreckon.dyes import count_dyes, dye_counts
 >>> from webreckon.pulls import pull, steps
 >>> from webreckon.scores import barring, is_row
+>>> from webreckon.ways import amount
 >>> from webreckon.webs import Web
 >>> three = Web("abc", ("ab", "bc", "ac"))
 >>> [dye_counts(three), count_dyes(three, 3), count_currents(three, 5), pull(three, "a", "b"), steps(three, "a", "b"), even_cuts(three)]
 [(0, 2, -3, 1), 6, 4, (2, 3), (2, 1), ((),)]
->>> [is_row(three, (2, 1, 0)), is_row(three, (3, 0, 0)), barring(three, (3, 0, 0)), bounded(three, ((1, 2), (0, 0), (0, 9)))]
-[True, False, 'bc', None]
+>>> [is_row(three, (2, 1, 0)), is_row(three, (3, 0, 0)), barring(three, (3, 0, 0)), amount(three, (5, 2, 4), "a", "c"), bounded(three, ((1, 2), (0, 0), (0, 9)))]
+[True, False, 'bc', 6, None]
 '''
 
 
@@ -56,7 +56,7 @@ class Examples(unittest.TestCase):
         self.check(HEAPS, "heaps", 7)
 
     def test_flows(self):
-        self.check(FLOWS, "flows", 8)
+        self.check(FLOWS, "flows", 9)
 
 
 if __name__ == "__main__":

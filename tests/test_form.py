@@ -13,7 +13,7 @@ import warnings
 PACKAGE = pathlib.Path(__file__).resolve().parent.parent / "webreckon"
 LIBRARY = {"heapq": {"heappush", "heappop"}, "math": {"gcd", "lcm", "isqrt", "comb", "perm", "factorial"}}
 BUILTINS = set("""len range enumerate zip min max sum abs sorted reversed int str bool bytes list tuple dict set
-    isinstance ord repr any all divmod super classmethod Exception ValueError LookupError ArithmeticError""".split())
+    isinstance ord repr any all divmod super classmethod ValueError LookupError ArithmeticError TypeError""".split())
 METHODS = set("""append clear copy count endswith extend find get index insert isalnum isalpha isdigit islower isspace
     isupper items join keys ljust lower lstrip partition pop remove replace reverse rfind rjust rpartition rsplit
     rstrip setdefault split splitlines startswith strip update upper values zfill bit_length""".split())
@@ -24,10 +24,14 @@ BARRED_WORDS = set("""type typing typing_extensions enum Enum IntEnum StrEnum Fl
     namedtuple NamedTuple TypedDict TYPE_CHECKING abstractmethod""".split())
 BARRED_NODES = (
     ast.Global, ast.AsyncFor, ast.AsyncFunctionDef, ast.AsyncWith, ast.Await, ast.Import, ast.Lambda, ast.Yield,
-    ast.YieldFrom, ast.Set, ast.SetComp, ast.GeneratorExp, ast.NamedExpr, ast.Try, ast.Div, ast.With, ast.AnnAssign,
+    ast.YieldFrom, ast.Set, ast.SetComp, ast.GeneratorExp, ast.NamedExpr, ast.Div, ast.AnnAssign, ast.Match, ast.Delete,
 )
 TAKE_LISTS = {"any", "all", "min", "max", "sum", "sorted", "tuple", "list", "dict"}
-SPECIAL = {"__init__", "__eq__", "__repr__", "__str__", "__len__", "__enter__", "__exit__", "__call__", "__iter__"}
+SPECIAL = {
+    "__init__": ["self", ...], "__eq__": ["self", "other"], "__str__": ["self"], "__len__": ["self"],
+    "__enter__": ["self"], "__exit__": ["self", "kind", "value", "trace"], "__iter__": ["self"],
+    "__contains__": ["self", "x"], "__getitem__": ["self", "at"], "__setitem__": ["self", "at", "worth"],
+}
 
 
 def files():
@@ -171,12 +175,48 @@ class Form(unittest.TestCase):
     def test_methods(self):
         own = {function.name for tree in self.trees.values() for part in tree.body if isinstance(part, ast.ClassDef)
                for function in part.body if isinstance(function, ast.FunctionDef)}
-        self.assertLessEqual({name for name in own if name.startswith("__")}, SPECIAL)
+        self.assertLessEqual({name for name in own if name.startswith("__")}, set(SPECIAL))
+        for _, node, where in self.each(ast.FunctionDef):
+            if SPECIAL.get(node.name, [...])[-1] is not ...:
+                self.assertEqual([part.arg for part in node.args.args], SPECIAL[node.name], where)
         for _, node, where in self.each(ast.Call):
             if isinstance(node.func, ast.Attribute):
                 self.assertIn(node.func.attr, METHODS | own, where)
             elif isinstance(node.func, ast.Name) and node.func.id in TAKE_LISTS:
-                self.assertFalse(node.keywords, where)
+                named = {part.arg for part in node.keywords}
+                self.assertLessEqual(named, {"default"} if node.func.id in ("min", "max") else set(), where)
+
+    def test_caught_errors_are_own_ones(self):
+        own = {part.name for part in self.trees[PACKAGE / "errors.py"].body if isinstance(part, ast.ClassDef)}
+        for _, node, where in self.each(ast.ExceptHandler):
+            told = node.type.elts if isinstance(node.type, ast.Tuple) else [node.type]
+            self.assertLessEqual({name.id for name in told}, own, where)
+            self.assertIsNone(node.name, where)
+
+    def test_what_ends_a_with_or_a_try_only_assigns(self):
+        rows = [(row, where) for _, node, where in self.each(ast.Try) for row in node.finalbody]
+        rows += [(row, where) for _, node, where in self.each(ast.FunctionDef) if node.name == "__exit__"
+                 for row in node.body]
+        self.assertGreater(len(rows), 5)
+        for row, where in rows:
+            if isinstance(row, ast.If):
+                sign = row.test.ops[0]
+                self.assertTrue(isinstance(row.test.left, ast.Name) and isinstance(sign, ast.Is), where)
+                self.assertIsNone(row.test.comparators[0].value, where)
+                self.assertFalse(row.orelse, where)
+            for part in row.body if isinstance(row, ast.If) else [row]:
+                self.assertIsInstance(part, ast.Assign, where)
+                self.assertIsInstance(part.value, (ast.Name, ast.Attribute, ast.Constant), where)
+                self.assertTrue(all(isinstance(target, ast.Attribute) for target in part.targets), where)
+
+    def test_a_class_with_items_is_not_iterated_over(self):
+        for _, node, where in self.each(ast.ClassDef):
+            told = {part.name: part for part in node.body if isinstance(part, ast.FunctionDef)}
+            self.assertEqual("__getitem__" in told, "__iter__" in told, where)
+            if "__iter__" in told:
+                self.assertIsInstance(told["__iter__"].body[-1], ast.Raise, where)
+        for path, text in self.texts.items():
+            self.assertNotRegex(text.decode("ascii"), r"\(type\)|Meta|metaclass=", path)
 
     def test_ranges_are_iterated_at_once(self):
         for path, tree in self.trees.items():

@@ -35,6 +35,20 @@ FUNCTIONS = {
     "ranks": "is_free(web, heap) free_heap(web, heap) rank(web, heap) mate(web, heap) taking(web, heap)",
     "pulls": """pull(web, place, other_place) heights_between(web, place, other_place) shares(web)
         steps(web, place, other_place) there_and_back(web, place, other_place)""",
+    "ways": """amount(web, rooms, place, other_place) carried(web, rooms, place, other_place)
+        narrowest(web, rooms, place, other_place) count_apart(web, place, other_place)
+        count_clear(web, place, other_place) apart(web, place, other_place) clear(web, place, other_place)
+        parting_places(web, place, other_place) cut_tree(web, rooms) joined_by(web) least_herds(web)""",
+    "doubts": """range_of(web, doubts, word) count_fits(web, doubts, looks) surely(web, doubts, looks)
+        best_tie(web, doubts, looks) reaching(web, offers, word, number)""",
+    "boards": "attempt(board, act)",
+}
+# Of each class what it is made of, and its methods; told without self.
+CLASSES = {
+    "webs": {"Web": "__init__(places, ties) __len__() __eq__(other) __str__() text() read(text)"},
+    "boards": {"Board": "__init__(web, leaning) __len__() do(deed) do_all(deeds, *, watch=None) undo() trial()"},
+    "yards": {"Yard": """__init__(web, heap) give(place) take(place) settle(bank) put(place, number) undo() trial()
+        tried(act)"""},
 }
 
 
@@ -57,14 +71,24 @@ class Interface(unittest.TestCase):
                 self.assertEqual(parameter.kind, inspect.Parameter.POSITIONAL_OR_KEYWORD, name)
                 self.assertIs(parameter.default, inspect.Parameter.empty, name)
 
-    def test_web(self):
-        webs = importlib.import_module("webreckon.webs")
-        self.assertEqual(webs.Web.__module__, "webreckon.webs")
-        self.assertEqual(list(inspect.signature(webs.Web).parameters), ["places", "ties"])
-        for method in ("__init__", "__len__", "__eq__", "__str__", "text", "read"):
-            self.assertIn(method, vars(webs.Web))
-        self.assertEqual(list(inspect.signature(webs.Web.read).parameters), ["text"])
-        self.assertIsInstance(vars(webs.Web)["read"], classmethod)
+    def test_classes(self):
+        for module, classes in CLASSES.items():
+            for name, text in classes.items():
+                told = getattr(importlib.import_module(f"webreckon.{module}"), name)
+                self.assertTrue(inspect.isclass(told), name)
+                self.assertEqual(told.__module__, f"webreckon.{module}", name)
+                for part in text.split(")")[:-1]:
+                    method, parameters = part.strip().split("(")
+                    self.assertIn(method, vars(told), name)
+                    self.assertEqual(self.told_signature(vars(told)[method]), f"({parameters})", (name, method))
+
+    def told_signature(self, method):
+        """Without the object, or the class, that stands first."""
+        signature = inspect.signature(getattr(method, "__func__", method))
+        return str(signature.replace(parameters=list(signature.parameters.values())[1:]))
+
+    def test_class_method(self):
+        self.assertIsInstance(vars(importlib.import_module("webreckon.webs").Web)["read"], classmethod)
 
 
 if __name__ == "__main__":

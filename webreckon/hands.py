@@ -10,11 +10,7 @@ from webreckon.shapes import check_heap
 from webreckon.shapes import check_place
 from webreckon.trees import check_tree
 from webreckon.webs import check_web
-
-
-def other_end(web, index, place):
-    tie = web.ties[index]
-    return tie[1] if tie[0] == place else tie[0]
+from webreckon.webs import other_end
 
 
 def hands_of(web, tree, bank):

@@ -49,6 +49,11 @@ def check_not_below(web, heap, bank):
         raise Refused(heap)
 
 
+def check_not_too_great(heap):
+    if any([abs(number) > MOST_HEAP for number in heap]):
+        raise TooMany(MOST_HEAP)
+
+
 def heap_behind(web, heap, gives):
     """What the places have when each has given so often."""
     told = {place: number for place, number in zip(web.places, heap)}
@@ -157,8 +162,7 @@ def behind(web, heap, gives):
     check_gives(web, gives)
     check_whole(web)
     found = heap_behind(web, heap, gives)
-    if any([abs(number) > MOST_HEAP for number in found]):
-        raise TooMany(MOST_HEAP)
+    check_not_too_great(found)
     return found
 
 

@@ -3,6 +3,7 @@
 from webreckon.errors import InvalidWord
 from webreckon.lots import all_herds
 from webreckon.lots import crossing
+from webreckon.lots import is_ring_lot
 from webreckon.lots import rings
 from webreckon.shapes import SIGNS
 from webreckon.shapes import check_index
@@ -31,6 +32,25 @@ def arrow_of(tie, sign):
 
 def arrows_of(web, leaning):
     return tuple([arrow_of(tie, sign) for tie, sign in zip(web.ties, leaning)])
+
+
+def turned_by(leaning, lot):
+    return "".join([OPPOSITE[sign] if index in lot else sign for index, sign in enumerate(leaning)])
+
+
+def is_ring_of_arrows(web, leaning, lot):
+    """The arrows of a ring go round one way exactly if they leave each of its places as often as they come to it."""
+    row = arrows_of(web, leaning)
+    tails = sorted([row[index][0] for index in lot])
+    heads = sorted([row[index][1] for index in lot])
+    return is_ring_lot(web, lot) and tails == heads
+
+
+def leads_out(web, leaning, herd):
+    """Whether some tie crosses the herd's border, and all arrows that do leave the herd."""
+    row = arrows_of(web, leaning)
+    lot = crossing(web, herd)
+    return len(lot) > 0 and all([row[index][0] in herd for index in lot])
 
 
 def leanings_of(web):
@@ -161,7 +181,7 @@ def turned(web, leaning, lot):
     """The leaning with the signs of the ties of the lot exchanged."""
     check_web_and_leaning(web, leaning)
     check_lot(web, lot)
-    return "".join([OPPOSITE[sign] if index in lot else sign for index, sign in enumerate(leaning)])
+    return turned_by(leaning, lot)
 
 
 def is_ringless(web, leaning):

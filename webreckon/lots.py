@@ -24,11 +24,16 @@ def outside_of(web, lot):
     return tuple([index for index in range(len(web.ties)) if index not in lot])
 
 
-def all_lots(web):
+def lots_within(lot):
+    """All lots that have no ties but those of this one, itself included."""
     lots = [()]
-    for index in range(len(web.ties)):
-        lots = lots + [lot + (index,) for lot in lots]
+    for index in lot:
+        lots = lots + [shorter + (index,) for shorter in lots]
     return lots
+
+
+def all_lots(web):
+    return lots_within(lot_of_all(web))
 
 
 def all_herds(web):
@@ -54,6 +59,12 @@ def herds_of(web, lot):
     for place, mark in zip(web.places, row):
         herds[mark] = herds[mark] + place
     return tuple(herds.values())
+
+
+def are_joined(web, lot, place, other_place):
+    """Whether both places are in one piece of the lot."""
+    row = marks(web, lot)
+    return row[web.places.index(place)] == row[web.places.index(other_place)]
 
 
 def rank_of(web, lot):

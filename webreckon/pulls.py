@@ -6,6 +6,8 @@ from webreckon.heights import heights_for
 from webreckon.heights import pieces_marked
 from webreckon.heights import ties_at
 from webreckon.heights import total
+from webreckon.lots import are_joined
+from webreckon.lots import lot_of_all
 from webreckon.shapes import check_place
 from webreckon.trees import trees_of
 from webreckon.webs import check_web
@@ -23,7 +25,7 @@ def first_in_piece(web, place):
 
 def are_apart(web, place, other_place):
     """Whether the places are in two pieces."""
-    return first_in_piece(web, place) != first_in_piece(web, other_place)
+    return not are_joined(web, lot_of_all(web), place, other_place)
 
 
 def grounds_with(web, place):

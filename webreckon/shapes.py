@@ -16,6 +16,7 @@ from webreckon.errors import InvalidLetters
 from webreckon.errors import InvalidLot
 from webreckon.errors import InvalidNumber
 from webreckon.errors import InvalidPlaces
+from webreckon.errors import InvalidRooms
 from webreckon.errors import InvalidRow
 from webreckon.errors import InvalidTies
 from webreckon.errors import InvalidValues
@@ -58,6 +59,17 @@ def are_places(value):
     return value == "".join(sorted(value))
 
 
+def is_place(web, value):
+    return isinstance(value, str) and len(value) == 1 and value in web.places
+
+
+def is_herd(web, value):
+    """Whether it is a string of unlike places of the web, ascending; the empty one is."""
+    if not isinstance(value, str) or len(value) > len(web.places):
+        return False
+    return value == "".join([place for place in web.places if place in value])
+
+
 def is_tie(places, value):
     if not isinstance(value, str) or len(value) != 2:
         return False
@@ -95,6 +107,10 @@ def is_bound(value):
     return is_integer_from(low, -MOST_ROOM, MOST_ROOM) and is_integer_from(high, low, MOST_ROOM)
 
 
+def is_room(value):
+    return is_integer_from(value, 0, MOST_ROOM)
+
+
 def is_length(value):
     return is_integer_from(value, -MOST_LENGTH, MOST_LENGTH)
 
@@ -117,6 +133,18 @@ def where_wrong(values, many, is_right):
     return NOWHERE
 
 
+def where_no_lot(web, values, most):
+    """Likewise for a lot of up to so many ties; the first one too many is a wrong one."""
+    if not isinstance(values, tuple):
+        return None
+    least = 0
+    for at, index in enumerate(values):
+        if at >= most or not is_integer_from(index, least, len(web.ties) - 1):
+            return at
+        least = index + 1
+    return NOWHERE
+
+
 def check_places(places):
     if not are_places(places):
         raise InvalidPlaces(places)
@@ -136,7 +164,7 @@ def check_index(web, index):
 
 
 def check_place(web, place):
-    if not isinstance(place, str) or len(place) != 1 or place not in web.places:
+    if not is_place(web, place):
         raise UnknownPlace(place)
 
 
@@ -145,14 +173,10 @@ def check_letters(web, letters):
         raise InvalidLetters(letters)
 
 
-def check_lot(web, lot):
-    if not isinstance(lot, tuple):
-        raise InvalidLot(None)
-    least = 0
-    for at, index in enumerate(lot):
-        if not is_integer_from(index, least, len(web.ties) - 1):
-            raise InvalidLot(at)
-        least = index + 1
+def check_lot(web, lot, most=MOST_TIES):
+    wrong = where_no_lot(web, lot, most)
+    if wrong != NOWHERE:
+        raise InvalidLot(wrong)
 
 
 def check_number(number, low, high):
@@ -181,6 +205,12 @@ def check_bounds(web, bounds):
     wrong = where_wrong(bounds, len(web.ties), is_bound)
     if wrong != NOWHERE:
         raise InvalidBounds(wrong)
+
+
+def check_rooms(web, rooms):
+    wrong = where_wrong(rooms, len(web.ties), is_room)
+    if wrong != NOWHERE:
+        raise InvalidRooms(wrong)
 
 
 def check_row(web, row):

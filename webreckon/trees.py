@@ -1,6 +1,7 @@
 """Trees: counted, listed, exchanged, and the least ones by the lengths of ties."""
 
 from webreckon.errors import NotATree
+from webreckon.lots import are_joined
 from webreckon.lots import full_rank
 from webreckon.lots import is_tree_lot
 from webreckon.lots import outside_of
@@ -11,7 +12,6 @@ from webreckon.shapes import check_lengths
 from webreckon.shapes import check_lot
 from webreckon.shapes import check_number
 from webreckon.webs import check_web
-from webreckon.webs import marks
 
 
 def check_tree(web, tree):
@@ -32,9 +32,8 @@ def trees_of(web):
 
 def parts_ends(web, lot, index):
     """Whether the ends of the tie are in two pieces of the lot."""
-    row = marks(web, lot)
     tie = web.ties[index]
-    return row[web.places.index(tie[0])] != row[web.places.index(tie[1])]
+    return not are_joined(web, lot, tie[0], tie[1])
 
 
 def exchanges_of(web, tree, index):

@@ -53,6 +53,12 @@ def in_order(letters):
     return "".join(sorted(letters))
 
 
+def other_end(web, index, place):
+    """The end of the tie behind this one; of a loop the place itself."""
+    tie = web.ties[index]
+    return tie[1] if tie[0] == place else tie[0]
+
+
 def marks(web, lot):
     """For each place, in their order, the first place of its piece by the ties of the lot."""
     row = web.places
