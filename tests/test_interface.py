@@ -42,6 +42,15 @@ FUNCTIONS = {
     "doubts": """range_of(web, doubts, word) count_fits(web, doubts, looks) surely(web, doubts, looks)
         best_tie(web, doubts, looks) reaching(web, offers, word, number)""",
     "boards": "attempt(board, act)",
+    "checker": "accepts(claim, certificate)",
+    "certificates": """certify_like(web, other_web) certify_trees(web) certify_table(web)
+        certify_least_tree(web, lengths) certify_leaning(web, leaning) certify_row(web, row)
+        certify_turned(web, leaning, other_leaning) certify_dyed(web, number) certify_current(web, bounds)
+        certify_parted(web, values) certify_alike(web, heap, other_heap) certify_free(web, heap)
+        certify_rank(web, heap) certify_lasting(web, heap, bank) certify_pull(web, place, other_place)
+        certify_steps(web, place, other_place) certify_amount(web, rooms, place, other_place)
+        certify_apart(web, place, other_place)""",
+    "samples": "house() wheel(number)",
 }
 # Of each class what it is made of, and its methods; told without self.
 CLASSES = {
@@ -49,6 +58,9 @@ CLASSES = {
     "boards": {"Board": "__init__(web, leaning) __len__() do(deed) do_all(deeds, *, watch=None) undo() trial()"},
     "yards": {"Yard": """__init__(web, heap) give(place) take(place) settle(bank) put(place, number) undo() trial()
         tried(act)"""},
+    "shelves": {"Shelf": """__init__() __len__() __contains__(x) __getitem__(at) __setitem__(at, worth) drop(name)
+        wish(wish) lift(index) cut(name, index) shut(name, index) undo() trial() tried(act)"""},
+    "consoles": {"Console": "__init__(web) say(line)"},
 }
 
 
@@ -56,7 +68,7 @@ def told_functions():
     for module, text in FUNCTIONS.items():
         for part in text.split(")")[:-1]:
             name, parameters = part.split("(")
-            yield module, name.strip(), [parameter.strip() for parameter in parameters.split(",")]
+            yield module, name.strip(), [parameter.strip() for parameter in parameters.split(",") if parameter]
 
 
 class Interface(unittest.TestCase):

@@ -36,6 +36,14 @@ def outflow(web, values):
     return list(out.values())
 
 
+def outflow_of_fractions(web, values):
+    """The tops of what goes out less what comes in, and their common bottom."""
+    bottom = 1
+    for value in values:
+        bottom = lcm(bottom, value[1])
+    return outflow(web, [value[0] * (bottom // value[1]) for value in values]), bottom
+
+
 def counts_of_currents(web):
     """A lot stands for the currents that are 0 outside of it, as many as its spare leaves choices."""
     rank_of_all = full_rank(web)
@@ -124,10 +132,7 @@ def least_value(web, bounds, index):
 
 def heights_of_part(web, values):
     """The heights, 0 at the first place of each piece, of the rise that leaves a current of the values."""
-    bottom = 1
-    for value in values:
-        bottom = lcm(bottom, value[1])
-    out = outflow(web, [value[0] * (bottom // value[1]) for value in values])
+    out, bottom = outflow_of_fractions(web, values)
     tops, many = heights_for(web, [-amount for amount in out], first_places(web))
     return tuple([fraction(top, many * bottom) for top in tops])
 

@@ -13,8 +13,7 @@ from webreckon.shapes import check_number
 from webreckon.shapes import is_integer
 from webreckon.shapes import is_integer_from
 from webreckon.shapes import is_place
-from webreckon.table import counts_of_lots
-from webreckon.table import sum_of_powers
+from webreckon.table import numbers_of
 from webreckon.webs import Web
 from webreckon.webs import check_web
 
@@ -74,21 +73,6 @@ def check_offers(web, offers):
 def check_doubts_and_looks(web, doubts, looks):
     check_doubts(web, doubts)
     check_looks(looks)
-
-
-def numbers_of(web):
-    """For each word its number: all of them are sums of lot counts."""
-    rows = counts_of_lots(web)
-    woods = sum([row[0] for row in rows])
-    return {
-        "trees": rows[0][0],
-        "woods": woods,
-        "holds": sum(rows[0]),
-        "ringless": sum([sum_of_powers(row, -1) for row in rows]),
-        "rows": woods,
-        "pieces": len(web.places) - len(rows) + 1,
-        "spare": len(rows[0]) - 1,
-    }
 
 
 def filling(web, doubts, lot):

@@ -53,6 +53,18 @@ def dyes_of(web, number):
     return found
 
 
+def first_dye(web, number):
+    """The first dye in the order of strings, None if there is none."""
+    rows = [""]
+    while rows:
+        figures = rows.pop()
+        if len(figures) == len(web.places):
+            return figures
+        longer = [figures + figure for figure in FIGURES[:number][::-1]]
+        rows.extend([row for row in longer if fits(web, row)])
+    return None
+
+
 def choices(web, herd, number, dye):
     """How many figures a herd of places that have one together may have, so that it agrees with the told ones."""
     told = [figure for place, figure in zip(web.places, dye) if place in herd and figure != UNTOLD]

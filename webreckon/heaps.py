@@ -122,6 +122,11 @@ def burnt_from(web, heap, bank):
     return (order, fuses)
 
 
+def ties_to(web, place, herd):
+    """How many ties lead from a place outside the herd into it."""
+    return len([index for index in crossing(web, herd) if place in web.ties[index]])
+
+
 def heap_with_fuses(web, tree, bank):
     """The heap that burns so that a place comes to burn just when its tie of the tree does; 0 at the bank."""
     order = bank

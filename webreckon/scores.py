@@ -36,12 +36,17 @@ def score_within(web, row, herd):
     return sum([number for place, number in zip(web.places, row) if place in herd])
 
 
+def bars_row(web, row, herd):
+    """Whether the herd has less in the row than ties; the empty one bars a wrong sum."""
+    if not herd:
+        return sum(row) != len(web.ties)
+    return score_within(web, row, herd) < ties_within(web, herd)
+
+
 def barring_of(web, row):
-    """The first herd that bars the row, None if there is none. With the right sum the empty one does not."""
-    if sum(row) != len(web.ties):
-        return ""
+    """The first herd that bars the row, the empty one ahead of all others; None if there is none."""
     for herd in all_herds(web):
-        if score_within(web, row, herd) < ties_within(web, herd):
+        if bars_row(web, row, herd):
             return herd
     return None
 

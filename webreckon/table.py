@@ -65,6 +65,21 @@ def sum_of_powers(counts, base):
     return sum([many * power for many, power in zip(counts, powers(base, len(counts) - 1))])
 
 
+def numbers_of(web):
+    """The numbers that lot counts tell at once, each under the word for it."""
+    rows = counts_of_lots(web)
+    woods = sum([row[0] for row in rows])
+    return {
+        "trees": rows[0][0],
+        "woods": woods,
+        "holds": sum(rows[0]),
+        "ringless": sum([sum_of_powers(row, -1) for row in rows]),
+        "rows": woods,
+        "pieces": len(web.places) - len(rows) + 1,
+        "spare": len(rows[0]) - 1,
+    }
+
+
 def scaled_powers(fraction, most):
     """The powers of the fraction up to the most, each times the bottom to the most: integers."""
     tops = powers(fraction[0], most)
