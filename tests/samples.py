@@ -113,6 +113,16 @@ def tiny_heap_webs():
     return [web for web in tiny_webs() if is_for_heaps(web)]
 
 
+class Same:
+    """Told to be equal to whatever it is held against."""
+
+    def __eq__(self, other):
+        return True
+
+    def __hash__(self):
+        return hash("trees")
+
+
 DEEP = ()
 for _ in range(18):
     DEEP = (DEEP,)

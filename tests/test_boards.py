@@ -5,7 +5,7 @@ import oracle
 from cases import Case
 from samples import (
     BIG, BIG_MIXED, CHAIN, HOUSE, LONE, LONE_LOOPS, NO_TIES, RING_OF_TWO, STRANGE, THREE, TWO_PARTS, WHEEL_AND_TWIG,
-    Dice, few_webs, tiny_webs, wrong_leanings, wrong_webs,
+    Dice, Same, few_webs, tiny_webs, wrong_leanings, wrong_webs,
 )
 from webreckon.boards import Board, attempt
 from webreckon.errors import Busy, InvalidDeeds, NothingToUndo, Refused
@@ -138,7 +138,8 @@ def wrong_deeds(web):
         ("ring", "01"), ("ring", None), ("ring", tuple(range(many + 1))), ("ring", (0, 1), 1), ("ring", ((0, 1),)),
         ("cut", "ba"), ("cut", "aa"), ("cut", "ah"), ("cut", 0), ("cut", None), ("cut", ("a",)), ("cut", ["a"]),
         ("cut", b"a"), ("cut", " "), ("cut", "a "), ("cut", "A"), ("cut", "abca"), ("cut", "a", "b"), ("cut", True),
-        ("cut", "x" * 4000),
+        ("cut", "x" * 4000), ("flop", "a"), ("Cut", "a"), ("cuts", ""), ("", "a"), ("rings", (0,)), (Same(), 0),
+        (Same(), "a"), (Same(), ()), ("flip", Same()), ("ring", Same()), ("ring", (Same(),)), ("cut", Same()),
     ]
     return bads
 

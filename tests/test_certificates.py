@@ -5,7 +5,7 @@ from cases import Case
 from papers import bounds, fractions, heap_with_small_sum, told_lasting, thrown, thrown_leaning
 from samples import (
     BIG, BIG_MIXED, CHAIN, FULL, HOUSE, LONE, LONE_LOOPS, NO_TIES, PATH, RING_OF_TWO, THREE, TIES_OF_TWO, TWO_PARTS,
-    WHEEL_AND_TWIG, Dice, few_webs, heap_webs, is_for_heaps, thrown_webs, tiny_heap_webs, tiny_webs, wrong_bounds,
+    WHEEL_AND_TWIG, Dice, few_webs, heap_webs, thrown_webs, tiny_heap_webs, tiny_webs, wrong_bounds,
     wrong_heaps, wrong_leanings, wrong_lengths, wrong_numbers, wrong_places, wrong_rooms, wrong_rows, wrong_values,
     wrong_webs,
 )

@@ -7,7 +7,7 @@ from cases import Case
 from papers import altered, papers
 from samples import (
     APART, BIG, BIG_MIXED, CHAIN, DEEP, FULL, HOUSE, LONE, LONE_LOOPS, NO_TIES, PATH, RING_OF_TWO, STRANGE, THREE,
-    TIES_OF_TWO, TWO_PARTS, WHEEL_AND_TWIG, Dice, thrown_webs,
+    TIES_OF_TWO, TWO_PARTS, WHEEL_AND_TWIG, Dice, Same, thrown_webs,
 )
 from webreckon.checker import accepts
 from webreckon.webs import Web, renamed
@@ -257,7 +257,8 @@ class Anything(Slowly):
 
     def test_each_part_of_any_kind(self):
         dice = Dice(131)
-        rows = (*STRANGE, (), ((),), DEEP, (DEEP, DEEP), (None,) * 3, (True,) * 3, ("a",) * 3, ((0, 1),) * 4, (1, (1,)))
+        rows = (*STRANGE, (), ((),), DEEP, (DEEP, DEEP), (None,) * 3, (True,) * 3, ("a",) * 3, ((0, 1),) * 4, (1, (1,)),
+                Same(), (Same(),), (Same(),) * 3, (Same(),) * 4, (0, Same()), (Same(), (0, 0, 0)))
         kinds = {}
         for web in (HOUSE, THREE):
             for claim, certificate in papers(web, dice, [THREE]):

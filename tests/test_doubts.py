@@ -4,7 +4,7 @@ import oracle_doubts as told
 from cases import Case
 from samples import (
     BIG, BIG_MIXED, CHAIN, FULL, HOUSE, LONE, LONE_LOOPS, NO_TIES, PATH, RING_OF_TWO, STRANGE, THREE, TWO_PARTS,
-    WHEEL_AND_TWIG, Dice, few_webs, thrown_webs, tiny_webs, wrong_lots, wrong_numbers, wrong_webs,
+    WHEEL_AND_TWIG, Dice, Same, few_webs, thrown_webs, tiny_webs, wrong_lots, wrong_numbers, wrong_webs,
     wrong_words_of_numbers,
 )
 from webreckon.doubts import best_tie, count_fits, range_of, reaching, surely
@@ -270,6 +270,16 @@ class Errors(Case):
         self.assertEqual(reaching(HOUSE, (), "trees", 10 ** 6), ())
         self.raises(InvalidNumber, "value", 10 ** 6 + 1, reaching, HOUSE, (), "trees", 10 ** 6 + 1)
         self.raises(InvalidNumber, "value", -1, reaching, HOUSE, (), "trees", -1)
+
+    def test_what_is_told_to_be_equal(self):
+        same = Same()
+        self.raises(InvalidWord, "value", same, range_of, HOUSE, (), same)
+        self.raises(InvalidWord, "value", same, reaching, HOUSE, (), same, 0)
+        for call in WITH_LOOKS:
+            self.raises(InvalidLooks, "index", 0, call, HOUSE, (), ((same, 5),))
+            self.raises(InvalidLooks, "index", 0, call, HOUSE, (), (("trees", same),))
+        for offer in ((same, 0), (same, "a", "b"), ("take", same), ("put", same, "b"), ("put", "a", same), same):
+            self.raises(InvalidOffers, "index", 1, reaching, HOUSE, (("take", 0), offer), "trees", 0)
 
     def test_nothing_is_altered(self):
         self.unaltered(range_of, HOUSE, (0, 2), "rows")

@@ -199,15 +199,9 @@ class Form(unittest.TestCase):
                  for row in node.body]
         self.assertGreater(len(rows), 5)
         for row, where in rows:
-            if isinstance(row, ast.If):
-                sign = row.test.ops[0]
-                self.assertTrue(isinstance(row.test.left, ast.Name) and isinstance(sign, ast.Is), where)
-                self.assertIsNone(row.test.comparators[0].value, where)
-                self.assertFalse(row.orelse, where)
-            for part in row.body if isinstance(row, ast.If) else [row]:
-                self.assertIsInstance(part, ast.Assign, where)
-                self.assertIsInstance(part.value, (ast.Name, ast.Attribute, ast.Constant), where)
-                self.assertTrue(all(isinstance(target, ast.Attribute) for target in part.targets), where)
+            self.assertIsInstance(row, ast.Assign, where)
+            self.assertIsInstance(row.value, (ast.Name, ast.Attribute, ast.Constant), where)
+            self.assertTrue(all(isinstance(target, ast.Attribute) for target in row.targets), where)
 
     def test_a_class_with_items_is_not_iterated_over(self):
         for _, node, where in self.each(ast.ClassDef):

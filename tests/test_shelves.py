@@ -9,7 +9,7 @@ import oracle_ways
 from cases import Case
 from samples import (
     APART, BIG, BIG_MIXED, CHAIN, FULL, HOUSE, LONE, LONE_LOOPS, NO_TIES, PATH, RING_OF_TWO, STRANGE, THREE,
-    TIES_OF_TWO, TWO_PARTS, WHEEL_AND_TWIG, Dice, thrown_webs, wrong_webs,
+    TIES_OF_TWO, TWO_PARTS, WHEEL_AND_TWIG, Dice, Same, thrown_webs, wrong_webs,
 )
 from webreckon.errors import (
     Broken, InUse, InvalidIndex, InvalidName, InvalidWish, NotAWeb, NothingToUndo, UnknownName,
@@ -116,7 +116,7 @@ class Webs(Shelves):
 
     def test_in_and_items_with_any_value(self):
         shelf = self.filled({"a": HOUSE, "b": THREE, "ab": LONE})
-        for value in (*STRANGE, 0, 1, "", "A", "c", "ba", "a ", ("a",), ["a"], b"a", {"a"}, HOUSE, "abc", "a" * 9):
+        for value in (*STRANGE, 0, 1, "", "A", "c", "ba", "a ", ("a",), ["a"], b"a", {"a"}, HOUSE, "abc", "a" * 9, Same()):
             self.assertIs(value in shelf, False)
             self.raises(UnknownName, "value", value, lambda: shelf[value])
         for value in ("a", "b", "ab"):
@@ -185,7 +185,7 @@ class Wishes(Shelves):
 
     def test_about_what_is_not_there(self):
         shelf = self.filled({"x": HOUSE})
-        for value in (*STRANGE, "", "y", "X", "xx", 0, ["x"], ("x",), b"x"):
+        for value in (*STRANGE, "", "y", "X", "xx", 0, ["x"], ("x",), b"x", Same()):
             for wish in (("whole", value), ("trees", value, 0), ("ringless", value, 0), ("dyed", value, 1000),
                          ("pull", value, "a", "b", (10 ** 6, 1)), ("joined", value, 0), ("like", value, "x"),
                          ("like", "x", value), ("like", value, value), ("unlike", value, "x"), ("unlike", "x", value),
@@ -198,7 +198,8 @@ class Wishes(Shelves):
     def test_wishes_of_the_wrong_shape(self):
         shelf = self.filled({"x": HOUSE})
         bads = [*STRANGE, (), "whole", ("whole",), ("whole", "x", 1), ["whole", "x"], ("Whole", "x"), (b"whole", "x"),
-                (("whole",), "x"), ([], "x"), ({}, "x"), (None, "x"), ("holds", "x", 1), ("", "x"), ("joined_by", "x", 1)]
+                (("whole",), "x"), ([], "x"), ({}, "x"), (None, "x"), ("holds", "x", 1), ("", "x"), ("joined_by", "x", 1),
+                ("xyz",), ("x",), ("",), (Same(), "x"), (Same(), "x", 1), ("trees", "x", Same()), ("pull",)]
         for word, least in (("trees", 0), ("ringless", 0), ("joined", 0), ("dyed", 1)):
             bads += [(word, "x"), (word, "x", 1, 1), (word,), (word, 1, "x")]
             bads += [(word, "x", number) for number in (least - 1, 1001, -1, True, False, None, "1", (1,), 10 ** 59, -10 ** 59)]
@@ -246,6 +247,21 @@ class Wishes(Shelves):
             self.check(shelf, after, wishes, many + 1)
             shelf.undo()
             self.check(shelf, webs, wishes, many)
+
+    def test_broken_comes_last(self):
+        shelf = self.filled({"x": HOUSE}, (("trees", "x", 5),))
+        self.raises(InvalidName, "value", "X", self.put, shelf, "X", 5)
+        self.raises(NotAWeb, "value", 5, self.put, shelf, "x", 5)
+        self.raises(Broken, "index", 0, self.put, shelf, "x", LONE)
+        for call in (shelf.cut, shelf.shut):
+            self.raises(UnknownName, "value", "y", call, "y", 9)
+            self.raises(InvalidIndex, "value", 4, call, "x", 4)
+            self.raises(Broken, "index", 0, call, "x", 0)
+        self.raises(InvalidWish, "value", ("trees", "x", -1), shelf.wish, ("trees", "x", -1))
+        self.raises(Broken, "index", 1, shelf.wish, ("trees", "x", 6))
+        self.raises(UnknownName, "value", "y", shelf.drop, "y")
+        self.raises(InUse, "index", 0, shelf.drop, "x")
+        self.check(shelf, {"x": HOUSE}, shelf.wishes, 2)
 
     def test_names_in_use(self):
         shelf = self.filled({"a": HOUSE, "b": THREE, "c": THREE, "d": LONE}, (

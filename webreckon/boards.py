@@ -43,7 +43,7 @@ def lot_of_deed(web, deed):
     return told if word == "ring" else crossing(web, told)
 
 
-class Kept:
+class KeptBoard:
     """What a board was like when a trial began, and what was kept before."""
 
     def __init__(self, board, before):
@@ -60,7 +60,7 @@ class BoardTrial:
         self.kept = None
 
     def __enter__(self):
-        self.kept = Kept(self.board, self.kept)
+        self.kept = KeptBoard(self.board, self.kept)
         return self.board
 
     def __exit__(self, kind, value, trace):
@@ -107,19 +107,18 @@ class Board:
             raise InvalidDeeds(None)
         leaning = self.leaning
         log = self.log
-        ended = None
         self.busy = True
         try:
             for at, deed in enumerate(deeds):
                 self.do_next(deed, at)
                 if watch is not None:
                     watch(self, at)
-            ended = True
+            leaning = self.leaning
+            log = self.log
         finally:
+            self.leaning = leaning
+            self.log = log
             self.busy = False
-            if ended is None:
-                self.leaning = leaning
-                self.log = log
 
     def undo(self):
         """Takes back the last deed."""

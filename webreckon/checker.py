@@ -365,7 +365,7 @@ CLAIMS = {
 
 def accepts(claim, certificate):
     """Whether this is a claim and its certificate shows it, whatever is passed."""
-    if not isinstance(claim, tuple) or len(claim) < 2 or not isinstance(claim[0], str):
+    if not isinstance(claim, tuple) or not claim or not isinstance(claim[0], str):
         return False
     if claim[0] not in CLAIMS:
         return False

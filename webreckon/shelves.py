@@ -94,7 +94,7 @@ def holds(webs, wish):
     return holds_of(web, wish)
 
 
-class Kept:
+class KeptShelf:
     """What a shelf was like when a trial began, and what was kept before."""
 
     def __init__(self, shelf, before):
@@ -114,7 +114,7 @@ class ShelfTrial:
         self.kept = None
 
     def __enter__(self):
-        self.kept = Kept(self.shelf, self.kept)
+        self.kept = KeptShelf(self.shelf, self.kept)
         return self.shelf
 
     def __exit__(self, kind, value, trace):

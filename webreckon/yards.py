@@ -18,7 +18,7 @@ def only_at(web, place, number):
     return [number if other == place else 0 for other in web.places]
 
 
-class Kept:
+class KeptYard:
     """What a yard was like when a trial began, and what was kept before."""
 
     def __init__(self, yard, before):
@@ -37,7 +37,7 @@ class YardTrial:
         self.kept = None
 
     def __enter__(self):
-        self.kept = Kept(self.yard, self.kept)
+        self.kept = KeptYard(self.yard, self.kept)
         return self.yard
 
     def __exit__(self, kind, value, trace):
