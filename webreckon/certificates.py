@@ -6,8 +6,8 @@ from webreckon.currents import heights_of_part
 from webreckon.currents import parted
 from webreckon.dyes import check_web_and_number
 from webreckon.dyes import first_dye
-from webreckon.heaps import are_alike
 from webreckon.heaps import check_heap_and_bank
+from webreckon.heaps import gives_between
 from webreckon.heaps import gives_from
 from webreckon.heaps import least_of
 from webreckon.heaps import ties_to
@@ -44,11 +44,10 @@ def ring_in(web, leaning):
 
 
 def unlikeness(web, heap, other_heap):
-    """What bars gives from the one heap to the other one.
+    """A number and a row of integers that bar gives from the one heap to the other one.
 
-    If the sums are the same, gives in fractions lead from the one to the other, and some place would not give a whole
-    number of times. How often it gives follows from the amounts with the same factors as the heights if one unit is
-    put in at this place.
+    If the sums are the same, gives in fractions lead there, and some place does not give a whole number of times. With
+    the heights for one unit that is put in at this place as factors, the differences of the heaps tell how often.
     """
     if sum(heap) != sum(other_heap):
         return (0, (1,) * len(web.places))
@@ -146,9 +145,10 @@ def certify_parted(web, values):
 
 def certify_alike(web, heap, other_heap):
     """Whether the heaps are alike."""
-    if not are_alike(web, heap, other_heap):
+    gives = gives_between(web, heap, other_heap)
+    if gives is None:
         return (("not alike", web.text(), heap, other_heap), unlikeness(web, heap, other_heap))
-    return (("alike", web.text(), heap, other_heap), gives_from(web, heap, other_heap))
+    return (("alike", web.text(), heap, other_heap), gives)
 
 
 def certify_free(web, heap):

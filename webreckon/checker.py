@@ -277,7 +277,7 @@ def shows_pull(web, certificate, place, other_place, told):
         return False
     out, bottom = outflow_of_fractions(web, rise_with(web, certificate))
     heights = {at: height for at, height in zip(web.places, certificate)}
-    # What flows goes down, so that out of the first place one less than nothing rises.
+    # A tie carries what its heights fall, so that one unit goes out of a place where their rise is one less than 0.
     wanted = {place: -bottom, other_place: bottom}
     if not all([less == wanted.get(at, 0) for at, less in zip(web.places, out)]):
         return False
@@ -295,7 +295,7 @@ def shows_steps(web, certificate, place, other_place, told):
         return False
     rise = rise_with(web, [NOUGHT if height is None else height for height in certificate])
     out, bottom = outflow_of_fractions(web, rise)
-    # At each place as much rises along its ties as there are ties: each of them leads one step on.
+    # The ties at a place lead, in the mean, one step nearer; all of them together as many steps as there are ties.
     for at, more in zip(web.places, out):
         if at in near and at != other_place and more != -ties_at(web, at) * bottom:
             return False
